@@ -1,0 +1,1 @@
+"""Grain bought and sold from day to day, with a store between."""
