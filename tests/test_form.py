@@ -41,6 +41,16 @@ def parts_of_kind(path, kind):
     return [part for part in parts_of(path) if isinstance(part, kind)]
 
 
+def names_bound_at_top(path):
+    names = set()
+    for part in ast.parse(path.read_text(encoding="utf-8")).body:
+        if isinstance(part, (ast.FunctionDef, ast.ClassDef)):
+            names.add(part.name)
+        if isinstance(part, ast.Assign):
+            names.update(target.id for target in part.targets)
+    return names
+
+
 class Form(unittest.TestCase):
     def test_the_package_holds_python_files_alone(self):
         self.assertIn("__init__.py", [path.name for path in package_files()])
@@ -70,6 +80,43 @@ class Form(unittest.TestCase):
                 for part in parts_of_kind(path, ast.ImportFrom):
                     self.assertEqual((part.level, part.module.split(".")[0]), (0, "grainstore"))
                     self.assertNotIn("*", [name.name for name in part.names])
+
+    def test_no_two_files_draw_from_one_another(self):
+        drawn = {path.stem: {part.module.split(".")[1] for part in parts_of_kind(path, ast.ImportFrom)}
+                 for path in package_files()}
+        while drawn:
+            free = [name for name in drawn if not drawn[name] & set(drawn)]
+            self.assertNotEqual(free, [], drawn)
+            for name in free:
+                drawn.pop(name)
+
+    def test_each_name_is_drawn_from_the_file_that_defines_it(self):
+        for path in package_files():
+            for part in parts_of_kind(path, ast.ImportFrom):
+                source = PACKAGE / (part.module.split(".")[1] + ".py")
+                for name in part.names:
+                    with self.subTest(file=path.name, name=name.name):
+                        self.assertIn(name.name, names_bound_at_top(source))
+
+    def test_no_parameter_or_local_is_called_like_an_import_a_class_or_a_name_of_pythons_own(self):
+        for path in package_files():
+            taken = set(dir(builtins))
+            for part in parts_of_kind(path, ast.ImportFrom):
+                taken.update(name.name for name in part.names)
+            taken.update(part.name for part in parts_of_kind(path, ast.ClassDef))
+            given = [part.arg for part in parts_of_kind(path, ast.arg)]
+            given += [part.id for part in parts_of_kind(path, ast.Name) if isinstance(part.ctx, ast.Store)]
+            with self.subTest(file=path.name):
+                self.assertEqual(taken & set(given), set())
+
+    def test_no_name_is_a_method_in_one_class_and_a_value_in_another(self):
+        methods = set()
+        fields = set()
+        for path in package_files():
+            for kind in parts_of_kind(path, ast.ClassDef):
+                methods.update(part.name for part in kind.body if isinstance(part, ast.FunctionDef))
+            fields.update(part.attr for part in parts_of_kind(path, ast.Attribute) if isinstance(part.ctx, ast.Store))
+        self.assertEqual(methods & fields, set())
 
     def test_no_barred_statement_or_expression(self):
         for path in package_files():
